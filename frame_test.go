@@ -71,10 +71,20 @@ func TestImportsAreAllowed(t *testing.T) {
 			if !strings.HasPrefix(path, "eddy/") && !slices.Contains(library, path) {
 				t.Errorf("%s imports %s", s.path, path)
 			}
-			if i.Name != nil {
-				t.Errorf("%s gives %s another name", s.path, path)
-			}
 		}
+	}
+}
+
+func TestIteratorsAreNotPulledByTheLibrary(t *testing.T) {
+	for _, s := range sources(t) {
+		ast.Inspect(s.file, func(n ast.Node) bool {
+			if x, ok := n.(*ast.SelectorExpr); ok {
+				if from, ok := x.X.(*ast.Ident); ok && from.Name == "iter" && strings.HasPrefix(x.Sel.Name, "Pull") {
+					t.Errorf("%s: iter.%s", s.path, x.Sel.Name)
+				}
+			}
+			return true
+		})
 	}
 }
 

@@ -61,10 +61,11 @@ func whole(l ...any) string {
 	return b.String()
 }
 
-// room is where a list lies in memory, with its spare room.
+// room is where a list lies in memory, with its spare room. The list is kept, as else its memory might be given to another one.
 type room struct {
 	what     string
 	from, to uintptr
+	kept     reflect.Value
 }
 
 // rooms are those of all lists of a value.
@@ -73,7 +74,7 @@ func rooms(what string, v reflect.Value) []room {
 	switch v.Kind() {
 	case reflect.Slice:
 		if v.Cap() > 0 && v.Type().Elem().Size() > 0 {
-			l = append(l, room{what, v.Pointer(), v.Pointer() + uintptr(v.Cap())*v.Type().Elem().Size()})
+			l = append(l, room{what, v.Pointer(), v.Pointer() + uintptr(v.Cap())*v.Type().Elem().Size(), v})
 		}
 		for i := range v.Len() {
 			l = append(l, rooms(fmt.Sprint(what, " ", i), v.Index(i))...)

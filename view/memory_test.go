@@ -82,10 +82,11 @@ func whole(l ...any) string {
 	return b.String()
 }
 
-// room is where a list lies in memory, with its spare room.
+// room is where a list lies in memory, with its spare room. The list is kept, as else its memory might be given to another one.
 type room struct {
 	what     string
 	from, to uintptr
+	kept     reflect.Value
 }
 
 // rooms are those of all lists of a value.
@@ -93,7 +94,7 @@ func rooms(what string, v any) []room {
 	var l []room
 	leaves(reflect.ValueOf(v), what, func(path string, v reflect.Value) {
 		if v.Kind() == reflect.Slice && v.Cap() > 0 {
-			l = append(l, room{path, v.Pointer(), v.Pointer() + uintptr(v.Cap())*v.Type().Elem().Size()})
+			l = append(l, room{path, v.Pointer(), v.Pointer() + uintptr(v.Cap())*v.Type().Elem().Size(), v})
 		}
 	})
 	return l
